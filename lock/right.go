@@ -4,6 +4,7 @@ import (
 	"castellan/api"
 	"castellan/escrow"
 	"castellan/owner"
+	"castellan/refuse"
 	"castellan/site"
 	"castellan/slot"
 	"castellan/stat"
@@ -94,9 +95,9 @@ func (k *look) tries() bool {
 // looked is a look at a lock at a place, if that may be.
 func looked(p api.Place, l api.Lock) *look {
 	many, e := site.Sites(p.Shape)
-	must(e)
+	refuse.Must(e)
 	k := &look{p, l, many}
-	need(k.places(), api.ErrArg)
+	refuse.Need(k.places(), api.ErrArg)
 	return k
 }
 
@@ -105,7 +106,7 @@ func right(p api.Place, l api.Lock) *look {
 	k := looked(p, l)
 	asks := [...]func() bool{k.tokens, k.guesses, k.knows, k.slots, k.tries}
 	for _, ask := range asks {
-		need(ask(), api.ErrArg)
+		refuse.Need(ask(), api.ErrArg)
 	}
 	return k
 }

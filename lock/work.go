@@ -2,13 +2,14 @@ package lock
 
 import (
 	"iter"
-	"slices"
 
 	"castellan/api"
+	"castellan/deep"
 	"castellan/escrow"
 	"castellan/hold"
 	"castellan/mode"
 	"castellan/owner"
+	"castellan/refuse"
 	"castellan/site"
 	"castellan/slot"
 	"castellan/stat"
@@ -26,20 +27,17 @@ type work struct {
 
 // begin begins to work on a lock that may be, in memory of its own.
 func begin(p api.Place, l api.Lock) *work {
-	w := &work{Lock: l, look: right(p, l), place: p}
-	w.Token = cloned(l.Token)
-	w.Known, w.Slots, w.Tries = slices.Clone(l.Known), slices.Clone(l.Slots), slices.Clone(l.Tries)
-	return w
+	return &work{Lock: deep.Lock(l), look: right(p, l), place: p}
 }
 
 // open is a lock whose slots were never used.
 func open(p api.Place, tree bool, c api.Counter) api.Lock {
 	looked(p, api.Lock{})
-	must(escrow.Check(c))
+	refuse.Must(escrow.Check(c))
 	known, e := stat.New(p.Shape)
-	must(e)
+	refuse.Must(e)
 	slots, e := slot.New(p.Shape)
-	must(e)
+	refuse.Must(e)
 	home := p.Lock % p.Shape.Nodes
 	l := api.Lock{Tree: tree, Own: api.Owner{Node: home, Hop: 1}, Known: known, Slots: slots, Tries: make([]api.Try, p.Shape.Slots)}
 	for at := range l.Tries {
@@ -47,7 +45,7 @@ func open(p api.Place, tree bool, c api.Counter) api.Lock {
 	}
 	if home == p.Me {
 		t, e := token.New(p.Shape, c)
-		must(e)
+		refuse.Must(e)
 		t.Hop = 1
 		l.Has, l.Token, l.Last = true, t, 1
 	}
@@ -72,7 +70,7 @@ func (w *work) site(at int) int { return w.place.Me*w.place.Shape.Slots + at }
 // of tells the node and the slot of a site.
 func (w *work) of(at int) (node, place int) {
 	node, place, e := site.Of(w.place.Shape, at)
-	must(e)
+	refuse.Must(e)
 	return node, place
 }
 
@@ -95,8 +93,8 @@ func (w *work) status(at int) api.Stat {
 // held asks for the slot of a ticket that is held in a mode that may do what is asked.
 func (w *work) held(t api.Ticket, may func(api.Mode) bool) {
 	state, e := slot.Poll(w.place.Shape, w.Slots, t.Slot, t.Use)
-	must(e)
-	need(state == api.StateHeld && may(w.Slots[t.Slot].Mode), api.ErrRight)
+	refuse.Must(e)
+	refuse.Need(state == api.StateHeld && may(w.Slots[t.Slot].Mode), api.ErrRight)
 }
 
 // wanting tells whether a slot wants to be told.
@@ -124,7 +122,7 @@ func (w *work) tell(at int) {
 	t := &w.Tries[at]
 	far := w.place.Now-t.Heard >= w.place.Far
 	nodes, e := owner.First(w.place.Shape, w.place.Me, w.Own, !w.Tree || far)
-	must(e)
+	refuse.Must(e)
 	for _, to := range nodes {
 		w.send(to, api.Message{Kind: api.MsgStat, Site: w.site(at), Stat: w.status(at), Hop: w.Own.Hop})
 	}
@@ -150,7 +148,7 @@ func (w *work) happens(at int) {
 // tick lets slots be late, and then settles, or tells those that want to be told.
 func (w *work) tick() {
 	slots, late, e := slot.Late(w.place.Shape, w.Slots, w.place.Now)
-	must(e)
+	refuse.Must(e)
 	w.Slots = slots
 	for _, at := range late {
 		w.changes(at)
@@ -183,7 +181,7 @@ func (w *work) back(hop int64) bool {
 
 // take takes a token.
 func (w *work) take(t api.Token) {
-	w.Has, w.Token, w.Last = true, cloned(t), t.Hop
+	w.Has, w.Token, w.Last = true, deep.Token(t), t.Hop
 	w.Own = api.Owner{Node: w.place.Me, Hop: t.Hop}
 }
 
@@ -208,7 +206,7 @@ again:
 // learn lets the token learn what is known, and own slots what the token knows of them.
 func (w *work) learn() {
 	t, e := token.Learn(w.place.Shape, w.Token, w.Known)
-	must(e)
+	refuse.Must(e)
 	w.Token = t
 	for at := range w.Slots {
 		w.Tries[at].Over = t.Over[w.site(at)]
@@ -221,7 +219,7 @@ func (w *work) learn() {
 // granted lets a slot be held, if it is pending, of that use and mode.
 func (w *work) granted(at int, h api.Hold, c api.Counter) bool {
 	slots, ok, e := slot.Grant(w.place.Shape, w.Slots, at, h.Use, h.Mode, c)
-	must(e)
+	refuse.Must(e)
 	w.Slots = slots
 	return ok
 }
@@ -237,13 +235,13 @@ func (w *work) pass(to int) {
 	for at := range w.Tries {
 		w.Tries[at].Heard = w.place.Now
 	}
-	w.send(to, api.Message{Kind: api.MsgToken, Token: cloned(w.Token)})
+	w.send(to, api.Message{Kind: api.MsgToken, Token: deep.Token(w.Token)})
 }
 
 // grant lets the next one hold, and tells its node.
 func (w *work) grant() bool {
 	t, h, ok, e := token.Grant(w.place.Shape, w.Token, w.place.Limit)
-	must(e)
+	refuse.Must(e)
 	w.Token = t
 	if ok {
 		w.inform(h)
@@ -270,7 +268,7 @@ func (w *work) hear(from int, m api.Message) {
 	}
 	do, ok := comes[m.Kind]
 	there := within(0, int64(from), int64(w.place.Shape.Nodes)-1)
-	need(ok && there && m.Lock == w.place.Lock && w.look.says(m), api.ErrArg)
+	refuse.Need(ok && there && m.Lock == w.place.Lock && w.look.says(m), api.ErrArg)
 	do(w, from, m)
 }
 
@@ -281,7 +279,7 @@ func (w *work) hearStat(_ int, m api.Message) {
 		return
 	}
 	known, _, e := stat.Learn(w.place.Shape, w.Known, m.Site, m.Stat)
-	must(e)
+	refuse.Must(e)
 	w.Known = known
 	if w.Has {
 		w.reply(node, m)
@@ -318,7 +316,7 @@ func (w *work) knows(at int) api.Stat {
 // forward lets a status go on to where the token probably is.
 func (w *work) forward(node int, m api.Message) {
 	to, on, e := owner.On(w.place.Shape, w.place.Me, api.Seek{Own: w.Own, Origin: node, Hop: m.Hop})
-	must(e)
+	refuse.Must(e)
 	if on {
 		w.send(to.Node, api.Message{Kind: api.MsgStat, Site: m.Site, Stat: m.Stat, Hop: to.Hop})
 	}

@@ -7,6 +7,7 @@ import (
 	"castellan/escrow"
 	"castellan/link"
 	"castellan/lock"
+	"castellan/refuse"
 	"castellan/report"
 	"castellan/site"
 )
@@ -16,7 +17,7 @@ func within(first, n, last int64) bool { return first <= n && n <= last }
 
 // configs gives up, where a config, or a node's number, may not be.
 func configs(c api.Config, me int) {
-	need(site.Check(c.Shape) == api.OK && len(c.Forms) == c.Shape.Locks, api.ErrArg)
+	refuse.Need(site.Check(c.Shape) == api.OK && len(c.Forms) == c.Shape.Locks, api.ErrArg)
 	bounds := [...][3]int64{
 		{0, int64(c.Limit), api.MaxAge},
 		{1, c.Retry, api.MaxSpan},
@@ -26,9 +27,9 @@ func configs(c api.Config, me int) {
 		{0, int64(me), int64(c.Shape.Nodes) - 1},
 	}
 	for _, b := range bounds {
-		need(within(b[0], b[1], b[2]), api.ErrArg)
+		refuse.Need(within(b[0], b[1], b[2]), api.ErrArg)
 	}
-	each(c.Forms, func(_ int, f *api.Form) { need(escrow.Check(f.Counter) == api.OK, api.ErrArg) })
+	each(c.Forms, func(_ int, f *api.Form) { refuse.Need(escrow.Check(f.Counter) == api.OK, api.ErrArg) })
 }
 
 // place tells where a node's lock stands.
@@ -48,11 +49,11 @@ func votes(c api.Config, n api.Node) bool {
 // right gives up, where a config or a node may not be.
 func right(c api.Config, n api.Node) {
 	configs(c, n.Me)
-	need(within(0, n.Now, api.MaxTick) && within(0, n.Since, api.MaxTick), api.ErrArg)
-	need(link.Check(n.Link) == api.OK && len(n.Link.Out) == c.Shape.Nodes, api.ErrArg)
-	need(epoch.Check(c.Shape, n.Promise.Epoch) == api.OK && votes(c, n), api.ErrArg)
-	need(len(n.Locks) == c.Shape.Locks, api.ErrArg)
-	each(n.Locks, func(at int, l *api.Lock) { must(lock.Check(place(c, n, at), *l)) })
+	refuse.Need(within(0, n.Now, api.MaxTick) && within(0, n.Since, api.MaxTick), api.ErrArg)
+	refuse.Need(link.Check(n.Link) == api.OK && len(n.Link.Out) == c.Shape.Nodes, api.ErrArg)
+	refuse.Need(epoch.Check(c.Shape, n.Promise.Epoch) == api.OK && votes(c, n), api.ErrArg)
+	refuse.Need(len(n.Locks) == c.Shape.Locks, api.ErrArg)
+	each(n.Locks, func(at int, l *api.Lock) { refuse.Must(lock.Check(place(c, n, at), *l)) })
 }
 
 // bare tells whether an event names nothing but its kind.
@@ -62,14 +63,14 @@ func bare(x api.Event) bool { return x.Ask == api.Ask{} && x.From == 0 && len(x.
 func may(c api.Config, me int, x api.Event) {
 	switch x.Kind {
 	case api.EventAsk:
-		must(call.Check(c.Shape, x.Ask))
+		refuse.Must(call.Check(c.Shape, x.Ask))
 		x.Ask = api.Ask{}
-		need(bare(x), api.ErrArg)
+		refuse.Need(bare(x), api.ErrArg)
 	case api.EventHear:
-		need(x.Ask == api.Ask{} && within(0, int64(x.From), int64(c.Shape.Nodes)-1) && x.From != me, api.ErrArg)
+		refuse.Need(x.Ask == api.Ask{} && within(0, int64(x.From), int64(c.Shape.Nodes)-1) && x.From != me, api.ErrArg)
 	case api.EventTick, api.EventRestart:
-		need(bare(x), api.ErrArg)
+		refuse.Need(bare(x), api.ErrArg)
 	default:
-		must(api.ErrArg)
+		refuse.Must(api.ErrArg)
 	}
 }

@@ -2,10 +2,12 @@ package node
 
 import (
 	"castellan/api"
+	"castellan/deep"
 	"castellan/epoch"
 	"castellan/link"
 	"castellan/lock"
 	"castellan/message"
+	"castellan/refuse"
 	"castellan/report"
 	"castellan/slot"
 )
@@ -18,7 +20,7 @@ type work struct {
 }
 
 // begin begins to work on a node that may be, in memory of its own.
-func begin(c api.Config, n api.Node) *work { return &work{Node: cloned(n), config: c} }
+func begin(c api.Config, n api.Node) *work { return &work{Node: deep.Node(n), config: c} }
 
 // step does what an event of its kind does.
 func (w *work) step(x api.Event) api.Answer {
@@ -68,7 +70,7 @@ func (w *work) lay(at int, l api.Lock, letters []api.Letter) {
 func (w *work) settle() {
 	each(w.Locks, func(at int, l *api.Lock) {
 		after, letters, e := lock.Settle(w.place(at), *l)
-		must(e)
+		refuse.Must(e)
 		w.lay(at, after, letters)
 	})
 }
@@ -138,7 +140,7 @@ func (w *work) try(a api.Ask) api.Answer {
 	}
 	x := w.ticket(a.Lock, n)
 	if x.State != api.StateHeld {
-		must(w.close(a.Lock, api.Ticket{Slot: n, Use: x.Use}, false))
+		refuse.Must(w.close(a.Lock, api.Ticket{Slot: n, Use: x.Use}, false))
 		return refused(api.ErrBusy)
 	}
 	return x
@@ -196,7 +198,7 @@ func (w *work) ticked(api.Event) api.Answer {
 	w.Now = min(w.Now+1, api.MaxTick)
 	each(w.Locks, func(at int, l *api.Lock) {
 		after, letters, e := lock.Tick(w.place(at), *l)
-		must(e)
+		refuse.Must(e)
 		w.lay(at, after, letters)
 	})
 	if w.patient(w.Since) {
@@ -244,7 +246,7 @@ func (w *work) vote() {
 	}
 	w.Promise = api.Promise{Epoch: next, Frozen: true}
 	t, e := report.New(w.config.Shape)
-	must(e)
+	refuse.Must(e)
 	w.Votes, w.Tally = true, t
 	w.others(func(to int) { w.post(to, api.Message{Kind: api.MsgAsk}) })
 	w.count(w.Me, w.report())
@@ -277,7 +279,7 @@ func (w *work) start(backs []api.Back) {
 func (w *work) takeBack(l []api.Back) {
 	each(l, func(_ int, b *api.Back) {
 		after, _, e := lock.Back(w.place(b.Lock), w.Locks[b.Lock], b.Hop)
-		must(e)
+		refuse.Must(e)
 		w.Locks[b.Lock] = after
 	})
 }
@@ -319,7 +321,7 @@ func (w *work) heard(x api.Event) api.Answer {
 // hearAsk hears that an epoch is asked for.
 func (w *work) hearAsk(from int, m api.Message) {
 	p, other, e := epoch.Ask(w.config.Shape, w.Promise, m.Epoch)
-	must(e)
+	refuse.Must(e)
 	if other {
 		w.rests()
 		w.Promise, w.Since = p, w.Now
@@ -343,7 +345,7 @@ func (w *work) hearReport(from int, m api.Message) {
 // counts tells whether what comes counts; if so it wakes, if it is frozen, and tells that too.
 func (w *work) counts(m api.Message) (counts, woke bool) {
 	_, counts, e := epoch.Hear(w.config.Shape, w.Promise, m.Epoch)
-	must(e)
+	refuse.Must(e)
 	woke = counts && w.Promise.Frozen
 	if woke {
 		w.wake()
@@ -370,6 +372,6 @@ func (w *work) hearLock(from int, m api.Message) {
 		w.settle()
 	}
 	l, letters, e := lock.Hear(w.place(m.Lock), w.Locks[m.Lock], from, m)
-	must(e)
+	refuse.Must(e)
 	w.lay(m.Lock, l, letters)
 }
