@@ -9,6 +9,7 @@ import (
 	"castellan/image"
 	"castellan/keep"
 	"castellan/node"
+	"castellan/seal"
 	"castellan/store"
 )
 
@@ -57,6 +58,16 @@ func recorded(s *store.Store) []api.EventKind {
 	return l
 }
 
+// keptIn tells the snapshot on a disk.
+func keptIn(t *testing.T, d *disk.Disk) []byte {
+	t.Helper()
+	k, e := keep.Open(d)
+	if e != api.OK {
+		t.Fatal(e)
+	}
+	return k.Snapshot()
+}
+
 // TestExample: P25.1, P25.2.
 func TestExample(t *testing.T) {
 	c, d := config(1), room(t, 2000)
@@ -80,8 +91,9 @@ func TestExample(t *testing.T) {
 	if e := s.LayBy(); e != api.OK || s.Len() != 0 || !node.Same(s.Node(), was) {
 		t.Errorf("LayBy: %v, %d", e, s.Len())
 	}
-	if many, _ := image.Size(c, was); s.Size() != many+1 && s.Size() != many+2 && s.Size() < many {
-		t.Errorf("Size: %d, of an image of %d", s.Size(), many)
+	b, _ := image.Bytes(c, was)
+	if f, _ := seal.Seal(b); s.Size() != len(f) || string(keptIn(t, d)) != string(b) {
+		t.Errorf("Size: %d, of a frame of %d", s.Size(), len(f))
 	}
 	if again := over(t, c, 0, d); !node.Same(again.Node(), was) || again.Len() != 0 {
 		t.Errorf("opened again: %v", again.Node())
