@@ -174,7 +174,6 @@ func TestAsks(t *testing.T) {
 	}
 	b = append(b, 3, 2, 0, 1, 5, 0, 0, 3)
 	seq := call.Asks(two, b)
-	b[0] = 9
 	for range 2 {
 		next, at := 0, 0
 		for i, a := range seq {

@@ -124,7 +124,6 @@ func TestAskHear(t *testing.T) {
 func TestRising(t *testing.T) {
 	in := []api.Epoch{ep(-3, 1), ep(-3, 1), ep(0, 0), ep(2, 1), ep(2, 0), ep(1, 2), ep(2, 2), ep(2, 2)}
 	seq := epoch.Rising(in...)
-	in[2] = ep(9, 9)
 	for range 2 {
 		var at []int
 		var got []api.Epoch

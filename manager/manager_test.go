@@ -226,7 +226,7 @@ func TestNil(t *testing.T) {
 	}
 }
 
-// TestTickets: P26.3, by locks, then slots; as they are when it is called, left at any time.
+// TestTickets: P26.3, by locks, then slots; left at any time, gone over again.
 func TestTickets(t *testing.T) {
 	m := open(t, config(1), 0, 2000, 9)
 	m.Do(acquire(1, api.ModeS))
@@ -235,7 +235,6 @@ func TestTickets(t *testing.T) {
 	m.Do(acquire(1, api.ModeS))
 	m.Do(api.Event{Kind: api.EventAsk, Ask: api.Ask{Kind: api.AskRelease, Lock: 1, Use: 1}})
 	seq := m.Tickets()
-	m.Crash([2]int{})
 	for range 2 {
 		var l []ticket
 		for t, s := range seq {

@@ -154,8 +154,8 @@ func TestRight(t *testing.T) {
 func TestCheck(t *testing.T) {
 	c := config(2)
 	for i, change := range []func(*api.Node){
-		func(n *api.Node) { n.Me = -1 }, func(n *api.Node) { n.Me = 2 }, func(n *api.Node) { n.Now = -1 }, func(n *api.Node) { n.Now = api.MaxTick + 1 }, func(n *api.Node) { n.Since = -1 }, func(n *api.Node) { n.Since = api.MaxTick + 1 },
-		func(n *api.Node) { n.Link.Inc = 0 }, func(n *api.Node) { n.Link.Out, n.Link.In = n.Link.Out[:1], n.Link.In[:1] }, func(n *api.Node) { n.Promise.Epoch.Node = 2 }, func(n *api.Node) { n.Promise.Epoch.Count = -1 }, func(n *api.Node) { n.Votes = true }, func(n *api.Node) { n.Tally.Reports = make([][]api.Report, 2) },
+		func(n *api.Node) { n.Me = -1 }, func(n *api.Node) { n.Me = 2 }, func(n *api.Node) { n.Now = -1 }, func(n *api.Node) { n.Now = api.MaxTick + 1 }, func(n *api.Node) { n.Since = -1 },
+		func(n *api.Node) { n.Link.Inc = 0 }, func(n *api.Node) { n.Link.Out, n.Link.In = n.Link.Out[:1], n.Link.In[:1] }, func(n *api.Node) { n.Promise.Epoch.Node = 2 }, func(n *api.Node) { n.Promise.Epoch.Count = -1 }, func(n *api.Node) { n.Votes = true },
 		func(n *api.Node) { n.Votes, n.Promise.Frozen = true, true }, func(n *api.Node) {
 			n.Votes, n.Promise = true, api.Promise{Epoch: api.Epoch{Count: 1, Node: 1}, Frozen: true}
 			n.Tally.Reports = make([][]api.Report, 2)
@@ -169,18 +169,13 @@ func TestCheck(t *testing.T) {
 			t.Errorf("node %d: %v", i, e)
 		}
 	}
-	n := open(t, c, 0)
-	n.Votes, n.Promise.Frozen, n.Tally.Reports = true, true, [][]api.Report{nil, {{}, {}}}
-	if e := node.Check(c, n); e != api.OK {
-		t.Errorf("one that votes: %v", e)
-	}
 }
 
 // TestMay: P23.1, events that may not be.
 func TestMay(t *testing.T) {
 	c := config(3)
 	poll := of(api.AskPoll, 0, 0, 1, 0)
-	for _, x := range []api.Event{tick, {Kind: api.EventRestart}, {Kind: api.EventHear, From: 0}, {Kind: api.EventHear, From: 2, Bytes: make([]byte, 1<<17)}, poll, {Kind: api.EventTick, Bytes: []byte{}}} {
+	for _, x := range []api.Event{tick, {Kind: api.EventRestart}, {Kind: api.EventHear, From: 0}, {Kind: api.EventHear, From: 2, Bytes: []byte{1}}, poll, {Kind: api.EventTick, Bytes: []byte{}}} {
 		if e := node.May(c, 1, x); e != api.OK {
 			t.Errorf("%v: %v", x.Kind, e)
 		}
@@ -486,8 +481,6 @@ func TestRunSame(t *testing.T) {
 	n := open(t, c, 0)
 	l := []api.Event{acquire(0, api.ModeX, 0, 0), tick, of(api.AskRead, 0, 0, 1, 0), {}, tick}
 	seq := node.Run(c, n, l...)
-	l[0] = tick
-	n.Locks[0].Known[0].Over = 77
 	for range 2 {
 		var got []api.Answer
 		for i, a := range seq {

@@ -139,7 +139,6 @@ func TestWay(t *testing.T) {
 		t.Errorf("back to its origin: %d", n)
 	}
 	seq := owner.Way(four, l, x)
-	l[0] = o(0, 0)
 	for range 2 {
 		for n, hop := range seq {
 			if n != 1 || hop != 3 {

@@ -203,11 +203,10 @@ func TestOpen(t *testing.T) {
 		s api.State
 	}
 	want := []pair{{api.Ticket{Use: 1}, api.StateHeld}, {api.Ticket{Slot: 1, Use: 1}, api.StatePending}, {api.Ticket{Lock: 1, Use: 1}, api.StatePending}, {api.Ticket{Node: 2, Lock: 1, Use: 1}, api.StatePending}}
-	seq := k.Open()
 	if l := k.Waiting(); len(l) != 3 || l[0] != want[1].t || l[1] != want[2].t || l[2] != want[3].t {
 		t.Errorf("Waiting: %v", l)
 	}
-	k.Round()
+	seq := k.Open()
 	for range 2 {
 		var got []pair
 		for t, s := range seq {

@@ -143,8 +143,6 @@ func TestEach(t *testing.T) {
 	}
 	raw = append(raw, 0, 0, 6)
 	seq := script.Each(c, raw)
-	clear(raw)
-	c.Forms = nil
 	for range 2 {
 		next := 0
 		for at, a := range seq {

@@ -228,7 +228,6 @@ func TestStats(t *testing.T) {
 	l := []api.Slot{pending(3, api.ModeS, 2, 9), held(2, api.ModeX, 1, five), ended(7, api.StateLate), {}, {Use: 4, State: 99, Mode: 9}, {State: api.StateHeld, Mode: 77, Prio: 8}}
 	want := []api.Stat{{Over: 2, Pending: true, Mode: api.ModeS, Prio: 2}, {Over: 1, Pending: true, Mode: api.ModeX, Prio: 1}, {Over: 7}, {}, {Over: 4}, {Over: -1, Pending: true, Mode: 77, Prio: 8}}
 	seq := slot.Stats(l)
-	l[0] = api.Slot{}
 	for range 2 {
 		next := 0
 		for at, x := range seq {

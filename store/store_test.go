@@ -221,18 +221,16 @@ func TestNil(t *testing.T) {
 	}
 }
 
-// TestApart: the node that is told is new memory; the config that is handed in is not kept.
+// TestApart: the node that is told is new memory; events are left at any time, and gone over again.
 func TestApart(t *testing.T) {
 	c := config(1)
 	s := over(t, c, 0, room(t, 900))
-	c.Forms[0].Counter.Floor = 99
 	n := s.Node()
 	n.Locks[0].Known[0].Over, n.Link.Out[0], n.Locks[0].Token.Over[0] = 77, 77, 77
 	if a, _, e := s.Do(acquire(api.ModeX)); e != api.OK || a.State != api.StateHeld {
 		t.Errorf("Do: %v %v", a, e)
 	}
 	seq := s.Events()
-	s.Do(tick)
 	for range 2 {
 		many := 0
 		for range seq {

@@ -168,7 +168,7 @@ func TestExample(t *testing.T) {
 		at   int
 		by   int64
 		want api.Errno
-	}{{0, 1, api.ErrRight}, {0, 0, api.ErrRight}, {1, 0, api.ErrArg}, {1, -6, api.ErrFloor}, {1, math.MaxInt64, api.ErrOver}, {2, 0, api.ErrArg}} {
+	}{{0, 1, api.ErrRight}, {1, 0, api.ErrArg}, {1, -6, api.ErrFloor}, {1, math.MaxInt64, api.ErrOver}, {2, 0, api.ErrArg}} {
 		if y, e := token.Change(two, x, c.at, c.by); e != c.want || !token.Same(y, api.Token{}) {
 			t.Errorf("Change(%d, %d): %v", c.at, c.by, e)
 		}

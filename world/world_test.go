@@ -127,7 +127,6 @@ func TestNew(t *testing.T) {
 	}
 	c := config(2)
 	w := open(t, c, 900, 1)
-	c.Forms[0].Counter.Floor = 99
 	x := w.Config()
 	x.Forms[0].Tree = true
 	if y := w.Config(); y.Forms[0] != (api.Form{Counter: api.Counter{Value: 5}}) || y.Shape != c.Shape || y.Suspect != 9 {
@@ -259,13 +258,13 @@ func TestTells(t *testing.T) {
 			t.Error("Way shares memory")
 		}
 	}
-	seq := w.Notes()
 	w.Do(tick(1))
+	seq := w.Notes()
 	many := 0
 	for range seq {
 		many++
 	}
-	if many != 9 {
+	if many != 10 {
 		t.Errorf("%d notes", many)
 	}
 	for i := range seq {
