@@ -96,6 +96,9 @@ func TestAskBytes(t *testing.T) {
 		for _, s := range wrongShapes {
 			got, e1 := call.Bytes(s, a)
 			x, many, e2 := call.Read(s, []byte(b))
+			if _, _, e := call.Read(s, nil); e != api.ErrArg {
+				t.Errorf("%v, ErrArg first: %v", s, e)
+			}
 			if call.Check(s, a) != api.ErrArg || e1 != api.ErrArg || e2 != api.ErrArg || got != nil || many != 0 || x != (api.Ask{}) {
 				t.Errorf("%v: %v %v", s, e1, e2)
 			}

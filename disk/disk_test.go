@@ -249,6 +249,14 @@ func TestCopySame(t *testing.T) {
 			t.Errorf("%d: a copy doesn't go on apart, or another one is the same", i)
 		}
 	}
+	stopped := d.Copy()
+	stopped.Stop(0)
+	stopped.Crash([2]int{9, 9})
+	kept := d.Copy()
+	kept.Crash([2]int{9, 9})
+	if !disk.Same(stopped, kept) {
+		t.Error("behind a crash a stop is there still")
+	}
 	if disk.Same(open(t, 1), open(t, 2)) {
 		t.Error("another room is the same")
 	}

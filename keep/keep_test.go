@@ -172,6 +172,13 @@ func TestErrors(t *testing.T) {
 	if e := k.Log([]byte("b")); e != api.OK {
 		t.Errorf("refused for its room it is broken: %v", e)
 	}
+	great := over(t, open(t, 1<<18))
+	for _, do := range []func(b []byte) api.Errno{great.Log, great.Compact} {
+		if e := do(long[1:]); e != api.OK {
+			t.Errorf("as long as may be: %v", e)
+		}
+	}
+	has(t, great, string(long[1:]))
 	if e := k.Compact([]byte("sss")); e != api.OK {
 		t.Errorf("Compact: %v", e)
 	}

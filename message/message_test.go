@@ -137,8 +137,12 @@ func TestCheck(t *testing.T) {
 		t.Errorf("empty lists: %v", e)
 	}
 	edge := api.Message{Kind: api.MsgStat, Lock: 1, Stamp: api.Stamp{Inc: api.MaxStamp, Seq: api.MaxStamp}, Epoch: api.Epoch{Count: api.MaxCount, Node: 2}, Hop: api.MaxHop, Stat: api.Stat{Over: api.MaxUse}}
-	if e := message.Check(wide, edge); e != api.OK {
-		t.Errorf("at the bounds: %v", e)
+	least := with(api.Message{Kind: api.MsgGrant, Use: 1, Mode: api.ModeIS})
+	most := with(api.Message{Kind: api.MsgGrant, Lock: 1, Site: 5, Use: api.MaxUse, Mode: api.ModeSIX, Hop: api.MaxHop})
+	for i, m := range []api.Message{edge, least, most} {
+		if e := message.Check(wide, m); e != api.OK {
+			t.Errorf("%d, at the bounds: %v", i, e)
+		}
 	}
 }
 

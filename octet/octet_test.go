@@ -86,8 +86,10 @@ func TestText(t *testing.T) {
 		if want := string(octet.Number(uint64(len(s)))) + s; string(b) != want {
 			t.Errorf("Text(%q) = %x", s, b)
 		}
-		if got, many, e := octet.ReadText(append(b, 'z')); got != s || many != len(b) || e != api.OK {
-			t.Errorf("ReadText(%x) = %q %d %v", b, got, many, e)
+		for _, more := range [][]byte{nil, {'z'}} {
+			if got, many, e := octet.ReadText(append(b, more...)); got != s || many != len(b) || e != api.OK {
+				t.Errorf("ReadText(%x) = %q %d %v", b, got, many, e)
+			}
 		}
 	}
 	for _, c := range []struct {

@@ -210,8 +210,15 @@ func TestGrant(t *testing.T) {
 	if hold != h(3, 2, api.ModeS) || !ok {
 		t.Errorf("%v %v", hold, ok)
 	}
-	if _, _, ok, _ := token.Grant(four, x, 3); ok {
-		t.Error("one goes ahead of an aged one")
+	for limit := range 4 {
+		if got, _, ok, e := token.Grant(four, x, limit); ok || e != api.OK || !token.Same(got, x) {
+			t.Errorf("cap %d: one goes ahead of an aged one, %v", limit, e)
+		}
+	}
+	for me := range 2 {
+		if n, ok, e := token.Goes(four, x, me); n != 0 || ok || e != api.OK {
+			t.Errorf("nobody writes: %d %v %v", n, ok, e)
+		}
 	}
 }
 
