@@ -180,7 +180,7 @@ func TestWrong(t *testing.T) {
 	}
 	for i, change := range []func(*api.Lock){
 		func(l *api.Lock) { l.Last = 0 }, func(l *api.Lock) { l.Last = 2 }, func(l *api.Lock) { l.Token.Hop = 2 }, func(l *api.Lock) { l.Last, l.Token.Hop = -1, -1 }, func(l *api.Lock) { l.Token = api.Token{} }, func(l *api.Lock) { l.Token.Over = l.Token.Over[:5] }, func(l *api.Lock) { l.Has, l.Last, l.Token = true, 0, api.Token{} },
-		func(l *api.Lock) { l.Own.Node = 3 }, func(l *api.Lock) { l.Own.Hop = -1 }, func(l *api.Lock) { l.Known = l.Known[:5] }, func(l *api.Lock) { l.Known[5].Over = -1 }, func(l *api.Lock) { l.Slots = l.Slots[:1] }, func(l *api.Lock) { l.Slots[1].Use = 3 }, func(l *api.Lock) { l.Tries = l.Tries[:1] }, func(l *api.Lock) { l.Tries[1].Sent = -2 }, func(l *api.Lock) { l.Tries[0].Heard = -1 }, func(l *api.Lock) { l.Tries[0].Over = -1 },
+		func(l *api.Lock) { l.Own.Node = 3 }, func(l *api.Lock) { l.Own.Hop = -1 }, func(l *api.Lock) { l.Known = l.Known[:5] }, func(l *api.Lock) { l.Known[5].Over = -1 }, func(l *api.Lock) { l.Slots = l.Slots[:1] }, func(l *api.Lock) { l.Slots[1].Use = 3 }, func(l *api.Lock) { l.Slots[1].Mode = 1 }, func(l *api.Lock) { l.Tries = l.Tries[:1] }, func(l *api.Lock) { l.Tries[1].Sent = -2 }, func(l *api.Lock) { l.Tries[0].Heard = -1 }, func(l *api.Lock) { l.Tries[0].Over = -1 },
 	} {
 		p := at(three, 0, 5)
 		l := open(t, p, true)
@@ -278,6 +278,85 @@ func TestHome(t *testing.T) {
 	}
 }
 
+// TestBounds: P22.1, places and messages at their bounds.
+func TestBounds(t *testing.T) {
+	least := api.Place{Shape: two, Me: 1, Retry: 1, Far: 1}
+	most := api.Place{Shape: three, Me: 2, Lock: 1, Limit: api.MaxAge, Retry: api.MaxTick, Far: api.MaxTick, Now: api.MaxTick}
+	for _, p := range []api.Place{least, most} {
+		l := open(t, p, true)
+		if e := lock.Check(p, l); e != api.OK {
+			t.Errorf("%v: %v", p, e)
+		}
+		hear(t, p, l, 0, stat(0, p.Lock, 0, api.Stat{}, 0))
+		hear(t, p, l, 0, grant(0, p.Lock, 0, api.MaxUse, api.ModeSIX, api.MaxHop, five))
+	}
+}
+
+// TestSecond: P22.2, letters are of the lock whose they are.
+func TestSecond(t *testing.T) {
+	p := at(three, 0, 3)
+	p.Lock = 1
+	l, _, out := acquire(t, p, open(t, p, true), api.ModeS, 1)
+	goes(t, "Acquire", out, stat(1, 1, 0, wants(0, api.ModeS, 1), 1))
+	home := at(three, 1, 3)
+	home.Lock = 1
+	_, out = hear(t, home, open(t, home, true), 0, out[0])
+	goes(t, "Hear", out, grant(0, 1, 0, 1, api.ModeS, 1, five), ack(0, 1, 0, wants(0, api.ModeS, 0), 1))
+	if l, _ = hear(t, p, l, 1, out[0]); l.Slots[0].State != api.StateHeld {
+		t.Errorf("granted: %v", l.Slots)
+	}
+}
+
+// TestRights: P22.3, what is not held, or not in such a mode, or without the token.
+func TestRights(t *testing.T) {
+	p0, p1 := at(two, 0, 3), at(two, 1, 3)
+	one := api.Ticket{Use: 1}
+	for m := api.ModeIS; m <= api.ModeX; m++ {
+		l, _, _ := acquire(t, p0, open(t, p0, false), m, 0)
+		v, e1 := lock.Value(p0, l, one)
+		_, e2 := lock.Change(p0, l, one, 1)
+		if (e1 == api.OK) != (m >= api.ModeS) || e1 != api.OK && e1 != api.ErrRight || e1 == api.OK && v != 5 || (e2 == api.OK) != (m == api.ModeX) || e2 != api.OK && e2 != api.ErrRight {
+			t.Errorf("held in %d: %v %v", m, e1, e2)
+		}
+		l, _, _ = acquire(t, p1, open(t, p1, false), m, 0)
+		_, e1 = lock.Value(p1, l, one)
+		_, e2 = lock.Change(p1, l, one, 1)
+		if e1 != api.ErrRight || e2 != api.ErrRight {
+			t.Errorf("pending in %d: %v %v", m, e1, e2)
+		}
+	}
+	l, _, _ := acquire(t, p1, open(t, p1, false), api.ModeX, 0)
+	l.Slots[0].State, l.Slots[0].Counter = api.StateHeld, api.Counter{Value: 8}
+	v, e1 := lock.Value(p1, l, one)
+	if _, e2 := lock.Change(p1, l, one, 1); v != 8 || e1 != api.OK || e2 != api.ErrRight {
+		t.Errorf("without the token: %d %v %v", v, e1, e2)
+	}
+}
+
+// TestOldToken: P22.5, a token is taken where there is none, if its Hop is above the last one.
+func TestOldToken(t *testing.T) {
+	p := at(two, 0, 4)
+	home := open(t, p, false)
+	k := func(hop int64) api.Letter {
+		return pass(0, 0, api.Token{Hop: hop, Over: make([]int64, 2), Counter: api.Counter{Value: 9}})
+	}
+	if l, out := hear(t, p, home, 1, k(9)); !same(l, home) || len(out) != 0 {
+		t.Errorf("it has one: %v", l.Token)
+	}
+	gone, _ := hear(t, p, home, 1, stat(0, 0, 1, wants(0, api.ModeX, 0), 1))
+	for hop := range int64(3) {
+		if l, out := hear(t, p, gone, 1, k(hop)); !same(l, gone) || len(out) != 0 {
+			t.Errorf("at the Hop %d: %v", hop, l.Token)
+		}
+	}
+	over := stat(0, 0, 1, api.Stat{Over: 1}, 1)
+	gone, _ = hear(t, p, gone, 1, over)
+	l, _ := hear(t, p, gone, 1, k(3))
+	if !l.Has || l.Last != 3 || l.Own != (api.Owner{Node: 0, Hop: 3}) || l.Token.Counter.Value != 9 || l.Token.Over[1] != 1 {
+		t.Errorf("a later one: %v", l)
+	}
+}
+
 // TestBeside: P22.5, beside another one a packet tells so; Value without the token is what that said.
 func TestBeside(t *testing.T) {
 	p0, p2 := at(three, 0, 3), at(three, 2, 8)
@@ -302,6 +381,12 @@ func TestBeside(t *testing.T) {
 	}
 	if _, e := lock.Change(p2, away, api.Ticket{Use: 1}, 1); e != api.ErrRight {
 		t.Errorf("Change: %v", e)
+	}
+	_, twice = hear(t, p0, home, 2, stat(0, 0, 4, api.Stat{}, 1))
+	goes(t, "Hear that it wants nothing", twice, ack(2, 0, 4, wants(0, api.ModeS, 0), 1))
+	other, _, _ := acquire(t, at(three, 1, 8), open(t, at(three, 1, 8), false), api.ModeS, 1)
+	if l, _ := hear(t, at(three, 1, 8), other, 0, back[0]); l.Slots[0].State != api.StatePending {
+		t.Error("the grant of another node's site is taken")
 	}
 	ended, out, _ := lock.End(p2, away, api.Ticket{Use: 1}, true)
 	goes(t, "End", out, stat(0, 0, 4, api.Stat{Over: 1}, 1), stat(1, 0, 4, api.Stat{Over: 1}, 1))
@@ -380,9 +465,14 @@ func TestFar(t *testing.T) {
 			t.Errorf("at %d: %v %v", now, after.Tries, e)
 		}
 	}
-	l.Tries[0].Sent = -1
-	_, out, _ := lock.Tick(at(three, 1, 4), l)
-	goes(t, "at once", out, stat(0, 0, 2, x, 1))
+	for _, now := range []int64{0, 4} {
+		early, _, _ := acquire(t, at(three, 1, now), open(t, at(three, 1, now), true), api.ModeX, 0)
+		_, out, _ := lock.Tick(at(three, 1, now), early)
+		goes(t, "just told", out)
+		early.Tries[0].Sent = -1
+		_, out, _ = lock.Tick(at(three, 1, now), early)
+		goes(t, "at once", out, stat(0, 0, 2, x, 1))
+	}
 }
 
 // TestTick: P22.4, who is late, by Due; then it settles, or tells.

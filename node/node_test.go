@@ -238,6 +238,10 @@ func TestDue(t *testing.T) {
 	n.Now, n.Since = api.MaxTick-3, api.MaxTick-3
 	n, _, _ = step(t, c, n, acquire(0, api.ModeX, 0, api.MaxTick))
 	n, _, _ = step(t, c, n, acquire(0, api.ModeX, 0, 2))
+	one := open(t, c, 1)
+	if one, _, _ = step(t, c, one, acquire(0, api.ModeX, 0, 1)); one.Locks[0].Slots[0].Due != 1 {
+		t.Errorf("Due: %v", one.Locks[0].Slots)
+	}
 	if n.Locks[0].Slots[0].Due != api.MaxTick || n.Locks[0].Slots[1].Due != api.MaxTick-1 {
 		t.Errorf("Due: %v", n.Locks[0].Slots)
 	}
@@ -348,6 +352,16 @@ func TestVote(t *testing.T) {
 	}
 	if n.Locks[0].Tries[0].Sent != -1 || n.Locks[0].Tries[0].Heard != n.Now || n.Locks[1].Tries[1].Sent != -1 {
 		t.Errorf("it wakes: %v", n.Locks[0].Tries)
+	}
+}
+
+// TestQuiet: P23.2, where nobody waits no epoch is asked for.
+func TestQuiet(t *testing.T) {
+	c := config(3)
+	for me := range 3 {
+		if n, out := ticks(t, c, open(t, c, me), 50); n.Promise != (api.Promise{}) || len(out) != 0 {
+			t.Errorf("node %d: %v", me, n.Promise)
+		}
 	}
 }
 
@@ -472,6 +486,19 @@ func TestWakeSettles(t *testing.T) {
 	n, _, out := step(t, c, n, comes(t, c, n, 1, api.Message{Kind: api.MsgStat, Epoch: e, Lock: 0, Site: 2, Stat: api.Stat{Pending: true, Mode: api.ModeS}, Hop: 1}))
 	if n.Locks[0].Slots[0].State != api.StateHeld || !slices.Equal(kinds(t, c, out), [][2]int{{1, 3}, {1, 2}}) {
 		t.Errorf("%v %v", n.Locks[0].Slots, kinds(t, c, out))
+	}
+}
+
+// TestOthersSettle: P23.2, when it wakes by what one lock hears, the others settle, too.
+func TestOthersSettle(t *testing.T) {
+	c := config(2)
+	n := open(t, c, 0)
+	e := api.Epoch{Count: 1, Node: 1}
+	n, _, _ = step(t, c, n, comes(t, c, n, 1, api.Message{Kind: api.MsgAsk, Epoch: e}))
+	n, _, _ = step(t, c, n, acquire(0, api.ModeS, 0, 0))
+	n, _, _ = step(t, c, n, comes(t, c, n, 1, api.Message{Kind: api.MsgAck, Epoch: e, Lock: 1, Site: 0, Hop: 1}))
+	if n.Promise.Frozen || n.Locks[0].Slots[0].State != api.StateHeld {
+		t.Errorf("%v %v", n.Promise, n.Locks[0].Slots)
 	}
 }
 

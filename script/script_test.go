@@ -187,10 +187,10 @@ func TestAnyBytes(t *testing.T) {
 func TestPlay(t *testing.T) {
 	c := config(2, 1, 1)
 	acts := []api.Act{
-		ask(0, api.Ask{Kind: api.AskAcquire, Mode: api.ModeX}), ask(0, api.Ask{Kind: api.AskPoll, Use: 9}), {Kind: api.ActDeliver, At: 3}, {Kind: api.ActTick, Node: 9}, {Kind: api.ActCrash, Node: 1}, ask(1, api.Ask{Kind: api.AskPoll, Use: 1}), ask(0, api.Ask{Kind: api.AskRead, Use: 1}), {Kind: api.ActTick},
+		ask(0, api.Ask{Kind: api.AskAcquire, Mode: api.ModeX}), ask(0, api.Ask{Kind: api.AskPoll, Use: 9}), {Kind: api.ActDeliver, At: 3}, {Kind: api.ActTick, Node: 9}, {Kind: api.ActCrash, Node: 1}, ask(1, api.Ask{Kind: api.AskPoll, Use: 1}), ask(0, api.Ask{Kind: api.AskRead, Use: 1}), {Kind: api.ActTick}, {Kind: api.ActTick}, {Kind: api.ActTick},
 	}
 	x, e := script.Play(c, 3000, 5, acts...)
-	want := api.Lived{Notes: 6, Refused: 2, Answered: 2, Held: [][]api.Held{{{Ticket: api.Ticket{Use: 1}, Mode: api.ModeX}}}, Has: [][]int{{0}}, Up: []bool{true, false}}
+	want := api.Lived{Notes: 8, Refused: 2, Answered: 2, Held: [][]api.Held{{{Ticket: api.Ticket{Use: 1}, Mode: api.ModeX}}}, Has: [][]int{{0}}, Up: []bool{true, false}}
 	if e != api.OK || !script.Same(x, want) {
 		t.Errorf("Play: %v %v", x, e)
 	}
