@@ -155,6 +155,9 @@ func TestRefused(t *testing.T) {
 		t.Errorf("doubled: %v", w.Way())
 	}
 	do(t, w, api.Act{Kind: api.ActDrop, At: 1}, api.Answer{}, api.OK)
+	if len(w.Way()) != 1 {
+		t.Errorf("dropped: %v", w.Way())
+	}
 	for len(w.Way()) < api.MaxPackets {
 		w.Do(api.Act{Kind: api.ActDouble})
 	}
