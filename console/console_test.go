@@ -38,7 +38,7 @@ func TestExample(t *testing.T) {
 
 // TestLines: P31.1, each line, and what it answers.
 func TestLines(t *testing.T) {
-	says(t, console.New(), "new 3 2 bt 7", "ok", "up", "0 1 2", "way", "none", "held 0", "none", "token 0", "0", "token 1", "1", "counter 1", "7 0 0", "ledger 1", "7", "epoch", "0 0", "notes", "0", "sound", "yes",
+	says(t, console.New(), "new 3 2 bt 7", "ok", "try 2 1 s 0", "error 310", "up", "0 1 2", "way", "none", "held 0", "none", "token 0", "0", "token 1", "1", "counter 1", "7 0 0", "ledger 1", "7", "epoch", "0 0", "notes", "1", "sound", "yes",
 		"acquire 0 0 s 3 9", "0.0.0.1 held", "try 0 0 x 0", "error 310", "try 0 0 is 1", "0.0.1.2 held", "acquire 0 0 x 0 1", "error 300", "acquire 2 0 x 1 1", "2.0.0.1 pending", "held 0", "0.0.0.1 s, 0.0.1.2 is", "way", "2>0 stat, 2>1 stat",
 		"double 1", "ok", "way", "2>0 stat, 2>1 stat, 2>1 stat", "drop 1", "ok", "deliver 0", "ok", "way", "2>1 stat, 0>2 ack", "poll 2.0.0.1", "pending", "tick 2", "ok", "poll 2.0.0.1", "late", "cancel 2.0.0.1", "error 303", "release 2.0.0.1", "error 303",
 		"read 0.0.0.1", "7", "read 0.0.1.2", "error 240", "change 0.0.0.1 1", "error 240", "release 0.0.0.1", "released", "cancel 0.0.1.2", "error 302", "poll 0.0.0.1", "released",
